@@ -104,3 +104,19 @@ func TestMemoryOfClashes(t *testing.T) {
 		newMemory(t, "TreClash", func() []int { return impl.TreClash(leaves.list(), i, list[i], beside.list()) }, leaves, beside)
 	})
 }
+
+func TestMemoryOfGrowth(t *testing.T) {
+	for n := range impl.TreMax + 3 {
+		leaves := guarded((&row{24}).leaves(n))
+		for m := -1; m <= n+1; m++ {
+			newMemory(t, "ConProof", func() []int { return impl.ConProof(leaves.list(), m) }, leaves)
+			proof := guarded(impl.ConProof(leaves.list(), m))
+			for _, old := range []int{-1, 9, impl.TreRoot(leaves.list()[:max(0, min(m, n))])} {
+				impl.ConCheck(m, old, n, impl.TreRoot(leaves.list()), proof.list())
+				proof.untouched(t, "ConCheck")
+				impl.ConCheck(m, old, n, old, leaves.list())
+				leaves.untouched(t, "ConCheck")
+			}
+		}
+	}
+}

@@ -47,18 +47,18 @@ const (
 	deafRight = impl.MixMax - 8191
 )
 
-func sameList(t *testing.T, what string, got []int, want []int) {
+func sameList[T comparable](t *testing.T, what string, got []T, want []T) {
 	t.Helper()
 	if !slices.Equal(got, want) {
 		t.Fatalf("%s: got %v, want %v", what, got, want)
 	}
 }
 
-// with is a list with another number at a place.
-func with(list []int, i int, n int) []int {
-	other := slices.Clone(list)
-	other[i] = n
-	return other
+// with is a list with something else at a place.
+func with[T any](list []T, i int, other T) []T {
+	turned := slices.Clone(list)
+	turned[i] = other
+	return turned
 }
 
 // inverse is what a number, no multiple of MixMax, is multiplied by to be 1 mod MixMax, which is a prime.

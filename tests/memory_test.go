@@ -28,6 +28,8 @@ func junk[T any](n int) T {
 		*p = impl.EntEntry{Kind: -91 - n, Ticket: -92, Who: -93, Price: -94}
 	case *impl.OwnRow:
 		*p = impl.OwnRow{Who: -91 - n, Face: -92, Used: true}
+	case *impl.MktDeal:
+		*p = impl.MktDeal{Ticket: -91 - n, Seller: -92, Price: -93, Buyer: -94, Due: -95}
 	}
 	return j
 }
@@ -223,5 +225,155 @@ func TestMemoryOfOwnProofs(t *testing.T) {
 				g.untouched(t, "OwnCheck")
 			}
 		}
+	}
+}
+
+func TestMemoryOfPurses(t *testing.T) {
+	r := &row{30}
+	for _, purses := range append(wrongPurses(), r.purses(impl.UsrMax), make([]int, impl.UsrMax), slices.Repeat([]int{impl.MonMax}, impl.UsrMax), []int{0, 1, 50000, impl.MonMax - 1, impl.MonMax}) {
+		g := guarded(purses)
+		for who := 0; who <= impl.UsrMax+1; who++ {
+			for _, n := range []int{0, 1, -1, impl.MonMax, -impl.MonMax, impl.MonMax + 1} {
+				newMemory(t, "MonTurn", func() []int { turned, _ := impl.MonTurn(g.list(), who, n); return turned }, g)
+				for _, to := range []int{0, 1, who, impl.UsrMax, impl.UsrMax + 1} {
+					newMemory(t, "MonMove", func() []int { moved, _ := impl.MonMove(g.list(), who, to, n); return moved }, g)
+				}
+			}
+			impl.MonHas(g.list(), who)
+			g.untouched(t, "MonHas")
+		}
+		impl.MonOk(g.list())
+		impl.MonSum(g.list())
+		g.untouched(t, "MonOk and MonSum")
+		newHouse(t, "MktNew", func() impl.MktHouse { return impl.MktNew(g.list()) }, g)
+	}
+}
+
+// houseGuard is a market each list of which is a guarded one.
+type houseGuard struct {
+	log                *guard[impl.EntEntry]
+	deals              *guard[impl.MktDeal]
+	purses, nums, said *guard[int]
+	clock              int
+}
+
+func guardedHouse(m impl.MktHouse) *houseGuard {
+	return &houseGuard{guarded(m.Log), guarded(m.Deals), guarded(m.Purses), guarded(m.Nums), guarded(m.Said), m.Clock}
+}
+
+func (g *houseGuard) house() impl.MktHouse {
+	return impl.MktHouse{Log: g.log.list(), Purses: g.purses.list(), Deals: g.deals.list(), Clock: g.clock, Nums: g.nums.list(), Said: g.said.list()}
+}
+
+func (g *houseGuard) untouched(t *testing.T, what string) {
+	t.Helper()
+	g.log.untouched(t, what+", entries")
+	g.deals.untouched(t, what+", deals")
+	for _, list := range []*guard[int]{g.purses, g.nums, g.said} {
+		list.untouched(t, what+", numbers")
+	}
+}
+
+// apart asks that no two lists share anything, their spare room included.
+func apart(t *testing.T, what string, lists ...[]int) {
+	t.Helper()
+	for n, list := range lists {
+		for i := range list[:cap(list)] {
+			list[:cap(list)][i] = n
+		}
+	}
+	for n, list := range lists {
+		for i, is := range list[:cap(list)] {
+			if is != n {
+				t.Fatalf("%s: of %d lists the %d shares its place %d with the %d", what, len(lists), n, i, is)
+			}
+		}
+	}
+}
+
+// newHouse is newMemory of a market: each of its lists is written over.
+func newHouse(t *testing.T, what string, call func() impl.MktHouse, given ...untouched) {
+	t.Helper()
+	first := call()
+	for _, g := range given {
+		g.untouched(t, what)
+	}
+	want := cloned(first)
+	second := call()
+	spoil(first.Log)
+	spoil(first.Deals)
+	apart(t, what, first.Purses, first.Nums, first.Said)
+	for _, g := range given {
+		g.untouched(t, what+", its answer written over")
+	}
+	sameHouse(t, what+", the second answer", second, want)
+	sameHouse(t, what+", once more", call(), want)
+}
+
+func TestMemoryOfMarkets(t *testing.T) {
+	r := &row{31}
+	houses := []impl.MktHouse{shelf(), {}, bench(6), bench(impl.TreMax)}
+	for range 150 {
+		houses = append(houses, r.market(), r.anyMarket())
+	}
+	for _, c := range wrongTurns() {
+		houses = append(houses, turned(shelf(), c.turn))
+	}
+	for _, m := range houses {
+		g := guardedHouse(m)
+		newHouse(t, "MktTick", func() impl.MktHouse { ticked, _ := impl.MktTick(g.house()); return ticked }, g)
+		newMemory(t, "MktRows", func() []impl.OwnRow { return impl.MktRows(g.house()) }, g)
+		newMemory(t, "MktOffers", func() []int { return impl.MktOffers(g.house()) }, g)
+		for who := -1; who <= impl.UsrMax+1; who++ {
+			newMemory(t, "MktFor", func() []int { return impl.MktFor(g.house(), who) }, g)
+		}
+		for ticket := -1; ticket <= impl.TikMax; ticket++ {
+			impl.MktDealOf(g.house(), ticket)
+		}
+		impl.MktOk(g.house())
+		impl.MktHeld(g.house())
+		g.untouched(t, "MktDealOf, MktOk and MktHeld")
+	}
+}
+
+func TestMemoryOfDeeds(t *testing.T) {
+	r := &row{32}
+	for range 200 {
+		m := r.market()
+		g := guardedHouse(m)
+		for _, q := range append(plainRequests(), r.request(m), r.request(m), r.request(m), r.request(m), impl.MktReq{}) {
+			newHouse(t, "MktDo", func() impl.MktHouse { done, _ := impl.MktDo(g.house(), q); return done }, g)
+		}
+	}
+	for ticket := range 6 {
+		for user := 1; user <= impl.UsrMax; user++ {
+			g := guardedHouse(bench(7))
+			for _, q := range []impl.MktReq{{Kind: impl.ReqIssue, Who: 3, Price: 5}, {Kind: impl.ReqOffer, Price: 5}, {Kind: impl.ReqDrop}, {Kind: impl.ReqFund}, {Kind: impl.ReqSettle}, {Kind: impl.ReqEnter}} {
+				q.User, q.N, q.Ticket = user, 3, ticket
+				newHouse(t, "MktDo", func() impl.MktHouse { done, _ := impl.MktDo(g.house(), q); return done }, g)
+			}
+		}
+	}
+}
+
+// A market that was turned may be turned again, twice and apart, and what it was ahead of that stays.
+func TestMemoryOfMarketsTurnedTwice(t *testing.T) {
+	r := &row{33}
+	m := impl.MktNew([]int{10, 300, 200, 100, 50})
+	for range 300 {
+		before := cloned(m)
+		q := r.request(m)
+		one, _ := impl.MktDo(m, q)
+		want := cloned(one)
+		two, _ := impl.MktTick(one)
+		three, _ := impl.MktDo(one, r.request(one))
+		for _, other := range []impl.MktHouse{two, three} {
+			spoil(other.Log)
+			spoil(other.Deals)
+			apart(t, "behind a market", other.Purses, other.Nums, other.Said)
+		}
+		sameHouse(t, "a market that was turned", one, want)
+		sameHouse(t, "the one ahead of it", m, before)
+		m = one
 	}
 }

@@ -377,3 +377,44 @@ func TestMemoryOfMarketsTurnedTwice(t *testing.T) {
 		m = one
 	}
 }
+
+func TestMemoryOfHeads(t *testing.T) {
+	r := &row{34}
+	for n := range impl.TreMax + 3 {
+		for _, list := range [][]impl.EntEntry{r.log(n), r.entries(n)} {
+			g := guarded(list)
+			first, there := impl.HedOf(g.list())
+			g.untouched(t, "HedOf")
+			for size := -1; size <= n+1; size++ {
+				newMemory(t, "HedProof", func() []int { return impl.HedProof(g.list(), size) }, g)
+				impl.HedAt(g.list(), size)
+				g.untouched(t, "HedAt")
+			}
+			if again, ok := impl.HedOf(g.list()); again != first || ok != there {
+				t.Fatalf("HedOf of %v is %v and %v, then %v and %v", list, first, there, again, ok)
+			}
+		}
+	}
+}
+
+func TestMemoryOfHeadsThatFollow(t *testing.T) {
+	r := &row{35}
+	for n := 1; n <= impl.TreMax; n++ {
+		list := r.log(n)
+		all, _ := impl.HedOf(list)
+		for m := range n + 1 {
+			old, _ := impl.HedAt(list, m)
+			for _, proof := range [][]int{impl.HedProof(list, m), r.leaves(r.below(8)), noMixed()} {
+				g := guarded(proof)
+				want := impl.HedFollows(old, all, slices.Clone(proof))
+				for _, pair := range [][2]impl.HedHead{{all, old}, {old, old}, {{Size: -1}, all}, {{Size: m, Log: 1, Own: 1}, all}} {
+					impl.HedFollows(pair[0], pair[1], g.list())
+				}
+				if got := impl.HedFollows(old, all, g.list()); got != want {
+					t.Fatalf("HedFollows(%v, %v, %v) hangs on what is behind the proof", old, all, proof)
+				}
+				g.untouched(t, "HedFollows")
+			}
+		}
+	}
+}

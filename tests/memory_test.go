@@ -30,6 +30,8 @@ func junk[T any](n int) T {
 		*p = impl.OwnRow{Who: -91 - n, Face: -92, Used: true}
 	case *impl.MktDeal:
 		*p = impl.MktDeal{Ticket: -91 - n, Seller: -92, Price: -93, Buyer: -94, Due: -95}
+	case *impl.HedHead:
+		*p = impl.HedHead{Size: -91 - n, Log: -92, Own: -93}
 	}
 	return j
 }
@@ -414,6 +416,105 @@ func TestMemoryOfHeadsThatFollow(t *testing.T) {
 					t.Fatalf("HedFollows(%v, %v, %v) hangs on what is behind the proof", old, all, proof)
 				}
 				g.untouched(t, "HedFollows")
+			}
+		}
+	}
+}
+
+// gatesGuard is gates in the middle of more of them, each with a guarded list.
+type gatesGuard struct {
+	whole, before []impl.GatGate
+	done          []*guard[int]
+	from, to      int
+}
+
+func guardedGates(gates []impl.GatGate) *gatesGuard {
+	g := &gatesGuard{from: 2, to: 2 + len(gates)}
+	odd := impl.GatGate{Head: junk[impl.HedHead](0), Done: []int{-77}}
+	for _, gate := range slices.Concat([]impl.GatGate{odd, odd}, gates, []impl.GatGate{odd, odd, odd}) {
+		done := guarded(gate.Done)
+		g.done = append(g.done, done)
+		g.whole = append(g.whole, impl.GatGate{Head: gate.Head, Done: done.list()})
+	}
+	g.before = slices.Clone(g.whole)
+	return g
+}
+
+func (g *gatesGuard) gates() []impl.GatGate {
+	return g.whole[g.from:g.to]
+}
+
+func (g *gatesGuard) untouched(t *testing.T, what string) {
+	t.Helper()
+	for i, done := range g.done {
+		done.untouched(t, what)
+		sameGate(t, what, g.whole[i], g.before[i])
+	}
+}
+
+// anyGates are gates, of which some are ok, and how tickets stand under the heads of those that are.
+func anyGates(r *row) ([]impl.GatGate, []impl.OwnRow) {
+	rows := r.rows(impl.TikMax)
+	var gates []impl.GatGate
+	for range 5 {
+		head := impl.HedHead{Size: r.below(3), Log: 5, Own: impl.OwnRoot(rows)}
+		gates = append(gates, impl.GatGate{Head: head, Done: r.done()}, impl.GatGate{Head: head, Done: r.leaves(r.below(4))}, impl.GatGate{Head: head})
+	}
+	return append(gates, impl.GatNew(), impl.GatGate{}, impl.GatGate{Head: impl.HedHead{Size: -1}, Done: []int{1, 2}}), rows
+}
+
+func TestMemoryOfGates(t *testing.T) {
+	r := &row{36}
+	for range 30 {
+		gates, rows := anyGates(r)
+		all := guardedGates(gates)
+		for i := range all.gates() {
+			for _, h := range []impl.HedHead{gates[i].Head, {Size: 3, Log: 1, Own: 1}, {Size: 0, Log: 9}, {Size: -1}} {
+				for _, proof := range [][]int{nil, r.leaves(r.below(4))} {
+					beside := guarded(proof)
+					newMemory(t, "GatSync", func() []int { g, _ := impl.GatSync(all.gates()[i], h, beside.list()); return g.Done }, all, beside)
+				}
+			}
+			for ticket := -1; ticket <= impl.TikMax; ticket++ {
+				row := rows[max(0, min(ticket, impl.TikMax-1))]
+				for _, proof := range [][]int{impl.OwnProof(rows, ticket), r.leaves(3)} {
+					beside := guarded(proof)
+					newMemory(t, "GatShow", func() []int {
+						g, _ := impl.GatShow(all.gates()[i], ticket, row.Who, row, beside.list())
+						return g.Done
+					}, all, beside)
+				}
+			}
+			impl.GatOk(all.gates()[i])
+			all.untouched(t, "GatOk")
+		}
+		for n := range gates {
+			some := guardedGates(gates[:n])
+			newMemory(t, "GatThrough", func() []int { return impl.GatThrough(some.gates()) }, some)
+			impl.GatTimes(some.gates(), r.below(impl.TikMax))
+			some.untouched(t, "GatTimes")
+		}
+	}
+	spoil(impl.GatNew().Done)
+	sameGate(t, "GatNew, written over", impl.GatNew(), impl.GatGate{Head: sevenHeads()[0]})
+}
+
+func TestMemoryOfWatching(t *testing.T) {
+	r := &row{37}
+	for n := range impl.WatMax + 2 {
+		for range 10 {
+			log := r.log(r.below(impl.TreMax + 2))
+			list := r.kept(n)
+			for _, heads := range [][]impl.HedHead{list, append(slices.Clone(list), impl.HedHead{Size: 1}, impl.HedHead{Size: 0})} {
+				g, other, entries := guarded(heads), guarded(r.kept(r.below(14))), guarded(log)
+				for _, h := range []impl.HedHead{{Size: r.below(41)}, {Size: 0, Log: 9}, {Size: impl.TreMax}, {Size: 41}} {
+					newMemory(t, "WatSee", func() []impl.HedHead { kept, _, _ := impl.WatSee(g.list(), h); return kept }, g)
+				}
+				newMemory(t, "WatMeet", func() []impl.HedHead { a, b, _ := impl.WatMeet(g.list(), other.list()); return []impl.HedHead{a, b} }, g, other)
+				impl.WatOk(g.list())
+				impl.WatAll(g.list(), entries.list())
+				g.untouched(t, "WatOk and WatAll")
+				entries.untouched(t, "WatAll")
 			}
 		}
 	}

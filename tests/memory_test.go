@@ -32,6 +32,14 @@ func junk[T any](n int) T {
 		*p = impl.MktDeal{Ticket: -91 - n, Seller: -92, Price: -93, Buyer: -94, Due: -95}
 	case *impl.HedHead:
 		*p = impl.HedHead{Size: -91 - n, Log: -92, Own: -93}
+	case *impl.WldLine:
+		*p = impl.WldLine{Req: impl.MktReq{User: -91 - n, N: -92, Kind: -93, Ticket: -94, Who: -95, Price: -96}}
+	case *impl.GatGate:
+		*p = impl.GatGate{Head: junk[impl.HedHead](n), Done: []int{-91 - n}}
+	case *impl.WldMsg:
+		*p = impl.WldMsg{Gate: -91 - n, Head: junk[impl.HedHead](n), Proof: []int{-92}}
+	case *impl.EvEvent:
+		*p = impl.EvEvent{Kind: -91 - n, At: -92, Ticket: -93, Who: -94}
 	}
 	return j
 }
@@ -515,6 +523,149 @@ func TestMemoryOfWatching(t *testing.T) {
 				impl.WatAll(g.list(), entries.list())
 				g.untouched(t, "WatOk and WatAll")
 				entries.untouched(t, "WatAll")
+			}
+		}
+	}
+}
+
+// bagGuard is messages in the middle of more of them, each with a guarded proof.
+type bagGuard struct {
+	whole, before []impl.WldMsg
+	proofs        []*guard[int]
+	from, to      int
+}
+
+func guardedBag(bag []impl.WldMsg) *bagGuard {
+	g := &bagGuard{from: 2, to: 2 + len(bag)}
+	odd := junk[impl.WldMsg](0)
+	for _, msg := range slices.Concat([]impl.WldMsg{odd, odd}, bag, []impl.WldMsg{odd, odd, odd}) {
+		proof := guarded(msg.Proof)
+		g.proofs = append(g.proofs, proof)
+		g.whole = append(g.whole, impl.WldMsg{Gate: msg.Gate, Head: msg.Head, Proof: proof.list()})
+	}
+	g.before = slices.Clone(g.whole)
+	return g
+}
+
+func (g *bagGuard) untouched(t *testing.T, what string) {
+	t.Helper()
+	for _, proof := range g.proofs {
+		proof.untouched(t, what)
+	}
+	if !equalBags(g.whole, g.before) {
+		t.Fatalf("%s: messages are now %v, they were %v", what, g.whole, g.before)
+	}
+}
+
+// worldGuard is a world each list of which is a guarded one.
+type worldGuard struct {
+	first  *guard[int]
+	market *houseGuard
+	lines  *guard[impl.WldLine]
+	gates  *gatesGuard
+	bag    *bagGuard
+}
+
+func guardedWorld(w impl.WldWorld) *worldGuard {
+	return &worldGuard{guarded(w.First), guardedHouse(w.Market), guarded(w.Lines), guardedGates(w.Gates), guardedBag(w.Bag)}
+}
+
+func (g *worldGuard) world() impl.WldWorld {
+	return impl.WldWorld{First: g.first.list(), Market: g.market.house(), Lines: g.lines.list(), Gates: g.gates.gates(), Bag: g.bag.whole[g.bag.from:g.bag.to]}
+}
+
+func (g *worldGuard) untouched(t *testing.T, what string) {
+	t.Helper()
+	for _, part := range []untouched{g.first, g.market, g.lines, g.gates, g.bag} {
+		part.untouched(t, what)
+	}
+}
+
+// spoilWorld writes all over a world, and asks that no two of its lists share anything.
+func spoilWorld(t *testing.T, what string, w impl.WldWorld) {
+	t.Helper()
+	lists := [][]int{w.First, w.Market.Purses, w.Market.Nums, w.Market.Said}
+	for _, g := range w.Gates {
+		lists = append(lists, g.Done)
+	}
+	for _, msg := range w.Bag {
+		lists = append(lists, msg.Proof)
+	}
+	apart(t, what, lists...)
+	spoil(w.Market.Log)
+	spoil(w.Market.Deals)
+	spoil(w.Lines)
+	spoil(w.Gates)
+	spoil(w.Bag)
+}
+
+// newWorld is newMemory of a world: each of its lists is written over.
+func newWorld(t *testing.T, what string, call func() impl.WldWorld, given ...untouched) {
+	t.Helper()
+	first := call()
+	for _, g := range given {
+		g.untouched(t, what)
+	}
+	want := clonedWorld(first)
+	second := call()
+	spoilWorld(t, what, first)
+	for _, g := range given {
+		g.untouched(t, what+", its answer written over")
+	}
+	sameWorld(t, what+", the second answer", second, want)
+	sameWorld(t, what+", once more", call(), want)
+}
+
+func TestMemoryOfWorlds(t *testing.T) {
+	r := &row{38}
+	worlds := []impl.WldWorld{town(), {}, impl.WldNew([]int{0, 100, 100, 100, 90})}
+	for _, c := range goodTowns() {
+		worlds = append(worlds, c.town())
+	}
+	for i, c := range wrongTowns() {
+		if i%20 == 0 {
+			worlds = append(worlds, c.town())
+		}
+	}
+	for range 60 {
+		worlds = append(worlds, r.world())
+	}
+	for _, w := range worlds {
+		g := guardedWorld(w)
+		for _, e := range append(someEvents(), impl.EvEvent{}, at(impl.EvTwice, 0), at(impl.EvHear, 3), at(impl.EvTell, 1), show(0, 1, 3)) {
+			newWorld(t, "WldStep", func() impl.WldWorld { after, _ := impl.WldStep(g.world(), e); return after }, g)
+		}
+		for _, n := range []int{0, 1, len(someEvents())} {
+			events := guarded(someEvents()[:n])
+			newWorld(t, "WldRun", func() impl.WldWorld { return impl.WldRun(g.world(), events.list()) }, g, events)
+		}
+		newHouse(t, "WldFold", func() impl.MktHouse { m, _ := impl.WldFold(g.first.list(), g.lines.list()); return m }, g)
+		newWorld(t, "WldNew", func() impl.WldWorld { return impl.WldNew(g.first.list()) }, g)
+		impl.WldOk(g.world())
+		impl.WldMoney(g.world())
+		g.untouched(t, "WldOk and WldMoney")
+	}
+	long := guarded(make([]impl.EvEvent, impl.EvMaxRun+1))
+	newWorld(t, "WldRun, too long", func() impl.WldWorld { return impl.WldRun(town(), long.list()) }, long)
+}
+
+// From WldNew on nothing that happens turns a world that was there before, though each is made out of the one ahead of it; what is on its way twice is two.
+func TestMemoryOfWorldsBehindEachOther(t *testing.T) {
+	r := &row{39}
+	for range 8 {
+		var all, copies []impl.WldWorld
+		steps(r, []int{0, 500, 400, 300, 200}, 60, func(s step) {
+			all, copies = append(all, s.after), append(copies, clonedWorld(s.after))
+			twice, _ := impl.WldStep(s.after, at(impl.EvTwice, 0))
+			spoilWorld(t, "twice", twice)
+		})
+		for i := range all {
+			sameWorld(t, "a world behind which others came", all[i], copies[i])
+		}
+		for i := range all {
+			spoilWorld(t, "one of many", all[i])
+			for j := i + 1; j < len(all); j++ {
+				sameWorld(t, "another one of many", all[j], copies[j])
 			}
 		}
 	}

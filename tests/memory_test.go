@@ -2,6 +2,7 @@ package tests
 
 import (
 	"slices"
+	"strconv"
 	"testing"
 
 	"loop.example/stileway/impl"
@@ -24,6 +25,8 @@ func junk[T any](n int) T {
 	switch p := any(&j).(type) {
 	case *int:
 		*p = -91 - n
+	case *string:
+		*p = "junk " + strconv.Itoa(n)
 	case *impl.EntEntry:
 		*p = impl.EntEntry{Kind: -91 - n, Ticket: -92, Who: -93, Price: -94}
 	case *impl.OwnRow:
@@ -667,6 +670,25 @@ func TestMemoryOfWorldsBehindEachOther(t *testing.T) {
 			for j := i + 1; j < len(all); j++ {
 				sameWorld(t, "another one of many", all[j], copies[j])
 			}
+		}
+	}
+}
+
+func TestMemoryOfLines(t *testing.T) {
+	r := &row{40}
+	worlds := []impl.WldWorld{town(), {}, impl.WldNew([]int{0, 100, 100, 100, 90})}
+	for range 60 {
+		worlds = append(worlds, r.world())
+	}
+	for _, w := range worlds {
+		g := guardedWorld(w)
+		newMemory(t, "DskBoard", func() []string { return impl.DskBoard(g.world()) }, g)
+	}
+	purses := []int{0, 100, 100, 100, 90}
+	for _, lines := range [][]string{nil, {"no"}, {"tick"}, exampleLines(), wrongTexts(), r.told(purses, 20), r.told(purses, impl.DskMaxLines), make([]string, impl.DskMaxLines+1)} {
+		for _, first := range [][]int{purses, {5, 5, 5, 5, 5}, {0, 1}, nil, {impl.MonMax, 1, 0, 0, 0}} {
+			given, said := guarded(first), guarded(lines)
+			newMemory(t, "DskRun", func() []string { return impl.DskRun(given.list(), said.list()) }, given, said)
 		}
 	}
 }
